@@ -1,0 +1,1 @@
+"""What hangs on what in an attribute grammar."""
