@@ -8,9 +8,15 @@ ARROWS = 1
 ASSUME = 2
 RELEASE = 3
 GRAPH = 4
+CLOSURE = 5
+VERDICT = 6
+CIRCLE = 7
+WAY = 8
+WHY = 9
+SPREAD = 10
 
 # For each call, by its number, how many whole numbers it has, and then how many rows.
-SHAPES = ((0, 1), (0, 1), (0, 3), (0, 3), (1, 1), (1, 1))
+SHAPES = ((0, 1), (0, 1), (0, 3), (0, 3), (1, 1), (1, 1), (0, 0), (1, 0), (5, 1), (0, 3), (0, 2), (0, 0))
 
 
 class Call:
@@ -42,7 +48,19 @@ def made(holder, call):
         return holder.release(rows[0], rows[1], rows[2])
     if call.number == GRAPH:
         return holder.graph(wholes[0], rows[0])
-    return holder.closure(wholes[0], rows[0])
+    if call.number == CLOSURE:
+        return holder.closure(wholes[0], rows[0])
+    if call.number == VERDICT:
+        return holder.verdict()
+    if call.number == CIRCLE:
+        return holder.circle(wholes[0])
+    if call.number == WAY:
+        return holder.way(wholes[0], (wholes[1], wholes[2]), (wholes[3], wholes[4]), rows[0])
+    if call.number == WHY:
+        return holder.why(rows[0], rows[1], rows[2])
+    if call.number == SPREAD:
+        return holder.spread(rows[0], rows[1])
+    return holder.rounds()
 
 
 def answered(holder, call):

@@ -24,6 +24,10 @@ class Family:
         rows = self.rows[pair[0]]
         rows[pair[1]] = with_arrow(rows[pair[1]], pair[2])
 
+    def last_round(self):
+        """The number of the last round that found something; each one before it did too."""
+        return max([0] + list(self.found_in.values()))
+
 
 def is_of_kind(kind, symbols, pair):
     """Whether a family of this kind may have the pair."""

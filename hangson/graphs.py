@@ -32,3 +32,11 @@ def told_arrows(occurrences, graph):
                 told.extend(occurrences[start])
                 told.extend(occurrence)
     return told
+
+
+def told_occurrences(occurrences, numbers):
+    """How many occurrences these numbers tell, then the occurrences, two numbers each."""
+    told = [len(numbers)]
+    for number in numbers:
+        told.extend(occurrences[number])
+    return told

@@ -83,3 +83,17 @@ class NoSuchProduction(Refusal):
 
     def __init__(self):
         Refusal.__init__(self, -11)
+
+
+class NoSuchOccurrence(Refusal):
+    """A place and an attribute that are no occurrence of the production."""
+
+    def __init__(self):
+        Refusal.__init__(self, -12)
+
+
+class NotFromBelow(Refusal):
+    """A pair that the family from below doesn't have."""
+
+    def __init__(self):
+        Refusal.__init__(self, -13)

@@ -1,6 +1,7 @@
-"""What the tests share: calls as lists, answers parted again, and small grammars."""
+"""What the tests share: calls as lists, answers parted again, a small grammar, and drawn changes."""
 
 from hangson.arrows import answers
+from tests.naive import assumable
 
 EXAMPLE = """
     S > v; E d > v;
@@ -40,6 +41,31 @@ def closure(kind, production):
     return [5, kind] + row(production)
 
 
+def verdict():
+    return [6]
+
+
+def circle(kind):
+    return [7, kind]
+
+
+def way(kind, start, end, production):
+    """From and to occurrences, each (place, attribute)."""
+    return [8, kind] + list(start) + list(end) + row(production)
+
+
+def why(symbol, one, other):
+    return [9] + row(symbol) + row(one) + row(other)
+
+
+def spread(symbol, attribute):
+    return [10] + row(symbol) + row(attribute)
+
+
+def rounds():
+    return [11]
+
+
 def parted(told, count):
     """The answers of so many calls, each as its own list; fails if the counts ahead don't fit."""
     parts = []
@@ -76,3 +102,20 @@ def twos(answer):
     if answer[0] != 0 or len(answer) % 2 != 1:
         raise AssertionError(f"no list of pairs: {answer}")
     return [(answer[k], answer[k + 1]) for k in range(1, len(answer), 2)]
+
+
+def names_of(model, pair):
+    """The names by which calls tell a pair of a model."""
+    attributes = model.attributes(pair[0])
+    return (model.symbols[pair[0]][0], attributes[pair[1]], attributes[pair[2]])
+
+
+def changed(rng, model):
+    """A call that assumes or releases a pair, and what it answers; the model is changed too."""
+    pair = rng.choice(assumable(model))
+    was_assumed = pair in model.assumed
+    if rng.random() < 0.4:
+        model.assumed.discard(pair)
+        return release(*names_of(model, pair)), [1 if was_assumed else 0]
+    model.assumed.add(pair)
+    return assume(*names_of(model, pair)), [-8 if was_assumed else 0]

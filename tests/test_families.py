@@ -1,12 +1,12 @@
-"""Promises 2 to 6 on many grammars, held against a second telling by sets; and what promise 13 says of families."""
+"""Promises 2 to 6 on many drawn grammars, held against a second telling by sets; and the rounds that families keep."""
 
 import random
 import unittest
 
 from hangson.families import ABOVE, BELOW, JOINED
 from hangson.holder import Holder
-from tests.helper import EXAMPLE, arrows, ask, assume, closure, fours, graph, load, release, twos
-from tests.naive import assumable, random_model
+from tests.helper import EXAMPLE, arrows, ask, changed, closure, fours, graph, load, twos
+from tests.naive import CALM, DEEP, FEW, assumable, random_model
 
 
 def all_asked(model):
@@ -30,24 +30,11 @@ def understood(call, answer):
     return twos(answer) if call[0] == 4 else fours(answer)
 
 
-def changed(rng, model):
-    """A call that assumes or releases a pair, and what it answers; the model is changed too."""
-    pair = rng.choice(assumable(model))
-    attributes = model.attributes(pair[0])
-    names = (model.symbols[pair[0]][0], attributes[pair[1]], attributes[pair[2]])
-    was_assumed = pair in model.assumed
-    if rng.random() < 0.4:
-        model.assumed.discard(pair)
-        return release(*names), [1 if was_assumed else 0]
-    model.assumed.add(pair)
-    return assume(*names), [-8 if was_assumed else 0]
-
-
 class Random(unittest.TestCase):
     def test_all_answers(self):
         for seed in range(150):
             rng = random.Random(seed)
-            model = random_model(rng)
+            model = random_model(rng, (FEW, CALM, DEEP)[seed % 3])
             calls = [load(model.text())]
             wanted = [[0, len(model.symbols), len(model.productions)]]
             for step in range(4):
@@ -63,20 +50,6 @@ class Random(unittest.TestCase):
                 if call[0] in (1, 4, 5):
                     answer = understood(call, answer)
                 self.assertEqual(answer, want, (seed, model.text(), call))
-
-
-class Thirteen(unittest.TestCase):
-    def test_the_joined_family_has_all_pairs_of_the_others(self):
-        for seed in range(150, 250):
-            rng = random.Random(seed)
-            model = random_model(rng)
-            calls = [load(model.text())]
-            for k in range(rng.randint(0, 4) if assumable(model) else 0):
-                calls.append(changed(rng, model)[0])
-            for symbol in model.symbols:
-                told = ask(*calls, graph(1, symbol[0]), graph(2, symbol[0]), graph(3, symbol[0]))
-                below, above, joined = [set(twos(answer)) for answer in told[-3:]]
-                self.assertLessEqual(below | above, joined)
 
 
 class Rounds(unittest.TestCase):

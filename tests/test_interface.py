@@ -5,7 +5,11 @@ import io
 import unittest
 
 from hangson.arrows import answers
-from tests.helper import EXAMPLE, arrows, ask, assume, closure, graph, load, release
+from tests.helper import (
+    EXAMPLE, arrows, ask, assume, circle, closure, graph, load, release, rounds, spread, verdict, way, why,
+)
+
+BIG = 10 ** 18
 
 
 def joined(*calls):
@@ -28,6 +32,44 @@ class Answers(unittest.TestCase):
         self.assertEqual(answers(line + [3, 1] + name + [1] + list(b"a") + [1] + list(b"v")), [3, 0, 1, 1, 1, 0])
         self.assertEqual(answers(line + [4, 1, 1] + name), [3, 0, 1, 1, 3, 0, 0, 1])
         self.assertEqual(answers(line + [5, 2, 1] + list(b"p")), [3, 0, 1, 1, 5, 0, 0, 0, 0, 1])
+        self.assertEqual(answers(line + [6]), [3, 0, 1, 1, 5, 0, 1, 1, 1, 1])
+        self.assertEqual(answers(line + [7, 2]), [3, 0, 1, 1, 1, 1])
+        self.assertEqual(answers(line + [8, 2, 0, 0, 0, 1, 1] + list(b"p")), [3, 0, 1, 1, 6, 0, 2, 0, 0, 0, 1])
+        self.assertEqual(answers(line + [9, 1] + name + [1] + list(b"a") + [1] + list(b"v")),
+                         [3, 0, 1, 1, 8, 0, 1, 0, 2, 0, 0, 0, 1])
+        self.assertEqual(answers(line + [10, 1] + name + [1] + list(b"a")), [3, 0, 1, 1, 3, 0, 0, 1])
+        self.assertEqual(answers(line + [11]), [3, 0, 1, 1, 4, 0, 1, 0, 1])
+
+    def test_all_calls_one_behind_another(self):
+        told = ask(load(EXAMPLE), rounds(), verdict(), circle(2), way(1, (1, 0), (0, 0), "top"), why("E", "d", "v"),
+                   spread("E", "v"), rounds(), assume("E", "v", "d"), circle(2), verdict(), release("E", "v", "d"), verdict(),
+                   graph(1, "E"), closure(0, "lit"), arrows("lit"))
+        self.assertEqual(told, [
+            [0, 2, 3], [0, 1, 0, 1], [0, 1, 1, 1, 1], [1], [0, 3, 1, 0, 1, 1, 0, 0], [0, 1, 1, 2, 0, 0, 0, 1],
+            [0, 0, 0, 1, 1], [0, 1, 0, 1], [0], [0, 1, 2, 0, 0, 0, 1], [0, 1, 1, 0, 0], [1], [0, 1, 1, 1, 1],
+            [0, 0, 1], [0, 0, 0, 0, 1], [0, 0, 0, 0, 1]])
+
+    def test_no_grammar_comes_first(self):
+        # Whatever else is wrong with the calls.
+        wrong = [arrows(""), assume("", "", ""), release("", "", ""), graph(9, ""), closure(9, ""), verdict(), circle(9),
+                 way(9, (-1, BIG), (BIG, -1), ""), why("", "", ""), spread("", ""), rounds()]
+        for refused in ([], [load("x")], [load("S > v;")], [load(" " * 3001)]):
+            told = ask(*refused, *wrong)
+            self.assertEqual(told[len(refused):], [[-4]] * 11)
+
+    def test_refused_calls_change_nothing(self):
+        asked = [graph(2, "E"), graph(3, "E"), closure(2, "lit"), verdict(), circle(2), circle(3), why("E", "d", "v"),
+                 way(3, (1, 0), (1, 0), "top"), spread("E", "d"), rounds()]
+        wrong = [load("x"), load("S > v;"), load(" " * 3001), arrows("x"), assume("E", "v", "d"), assume("X", "v", "d"),
+                 assume("E", "x", "d"), assume("S", "v", "v"), release("X", "v", "d"), release("E", "v", "x"), graph(0, "E"),
+                 graph(1, "X"), closure(-1, "lit"), closure(1, "x"), circle(-1), circle(BIG), way(4, (0, 0), (0, 0), "lit"),
+                 way(0, (0, 0), (0, 0), "x"), way(0, (0, 0), (0, 2), "lit"), why("X", "d", "v"), why("E", "x", "v"),
+                 why("E", "v", "d"), spread("X", "d"), spread("E", "x")]
+        numbers = [-2, -3, -1, -11, -8, -5, -6, -7, -5, -6, -10, -5, -10, -11, -10, -10, -10, -11, -12, -5, -6, -13, -5, -6]
+        for call, number in zip(wrong, numbers, strict=True):
+            told = ask(load(EXAMPLE), assume("E", "v", "d"), *asked, call, *asked)
+            self.assertEqual(told[12], [number], call)
+            self.assertEqual(told[2:12], told[13:], call)
 
     def test_a_list_of_plain_whole_numbers(self):
         told = answers(joined(load(EXAMPLE), release("E", "v", "d"), graph(3, "E"), arrows("none")))
@@ -36,14 +78,19 @@ class Answers(unittest.TestCase):
 
     def test_empty_names_and_texts(self):
         told = ask(load(""), load(EXAMPLE), arrows(""), assume("", "d", "v"), assume("E", "", "v"), assume("E", "d", ""),
-                   release("", "", ""), release("E", "", ""), graph(1, ""), closure(1, ""))
-        self.assertEqual(told, [[-3], [0, 2, 3], [-11], [-5], [-6], [-6], [-5], [-6], [-5], [-11]])
+                   release("", "", ""), release("E", "", ""), graph(1, ""), closure(1, ""), way(1, (0, 0), (0, 0), ""),
+                   why("", "d", "v"), why("E", "", "v"), why("E", "d", ""), spread("", "d"), spread("E", ""))
+        self.assertEqual(told, [[-3], [0, 2, 3], [-11], [-5], [-6], [-6], [-5], [-6], [-5], [-11], [-11], [-5], [-6], [-6],
+                                [-5], [-6]])
 
     def test_names_of_100_bytes(self):
         for name in (list(b"E" * 100), list(range(100)), list(range(156, 256)), [0] * 100):
             told = ask(load(EXAMPLE), arrows(name), assume(name, "d", "v"), assume("E", name, "v"), assume("E", "d", name),
-                       release(name, name, name), release("E", name, "v"), graph(1, name), closure(1, name), graph(1, "E"))
-            self.assertEqual(told[1:], [[-11], [-5], [-6], [-6], [-5], [-6], [-5], [-11], [0, 0, 1]])
+                       release(name, name, name), release("E", name, "v"), graph(1, name), closure(1, name), graph(1, "E"),
+                       way(1, (0, 0), (0, 0), name), why(name, "d", "v"), why("E", "d", name), spread(name, "d"),
+                       spread("E", name), spread("E", "v"))
+            self.assertEqual(told[1:], [[-11], [-5], [-6], [-6], [-5], [-6], [-5], [-11], [0, 0, 1], [-11], [-5], [-6], [-5],
+                                        [-6], [0, 0, 0, 1, 1]])
 
     def test_names_with_a_call_within(self):
         # The bytes of a name are passed over, whatever call they would be.
@@ -85,11 +132,18 @@ class Answers(unittest.TestCase):
         told = ask(*calls)
         self.assertEqual(told[0], [0, 12, 24])
         self.assertEqual(told[1:5] * 99, told[1:])
+        calls = [load(text)]
+        for k in range(66):
+            calls.extend([assume("L", "e", "a"), verdict(), circle(k % 4), release("L", "e", "a"), rounds(),
+                          why("A", "b", "e")])
+        told = ask(*calls)
+        self.assertEqual(told[1:25] * 16, told[1:385])
 
 
 class NothingKept(unittest.TestCase):
     def test_the_list_is_not_changed(self):
         calls = joined(load(EXAMPLE), arrows("top"), assume("E", "v", "d"), graph(3, "E"), closure(3, "add"),
+                       verdict(), circle(3), way(3, (1, 0), (1, 0), "top"), why("E", "d", "v"), spread("E", "d"), rounds(),
                        release("E", "v", "d"), load(" " * 3001), load("$"))
         before = list(calls)
         answers(calls)
